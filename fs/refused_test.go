@@ -65,18 +65,35 @@ func TestNoSpace(t *testing.T) {
 
 // TestRefusedIsNothing: P27.1: a call that was refused changes nothing of what is written later, though it had laid containers.
 func TestRefusedIsNothing(t *testing.T) {
-	for left := range 8 {
-		f, _ := aFull(t, left)
-		g, _ := aFull(t, left)
-		for _, o := range []api.Op{write(0, 0, some(3000, 5)), write(0, 100, some(3000, 6)), write(1, 0, some(3000, 7))} {
-			wantErr(t, f, o, api.ENoSpc)
-		}
-		for _, o := range []api.Op{mkdir("/n"), of(api.OpSync), of(api.OpCheckpoint), write(0, 0, "x"), of(api.OpCheckpoint)} {
-			wantResult(t, f, o, g.Do(o))
-			if !slices.Equal(f.Volume().Disk().Image(), g.Volume().Disk().Image()) {
-				t.Fatal(left, "another image behind", short(o))
+	refused := 0
+	for left := range 30 {
+		for _, n := range []int{500, 1000, 2000, 3000} {
+			f, _ := aFull(t, left)
+			g, _ := aFull(t, left)
+			var l []api.Op
+			for i := range 12 { // so that there are more dirty nodes than free sectors that stand alone
+				l = append(l, mkdir("/"+strings.Repeat(string(rune('a'+i)), 32)))
+			}
+			for _, o := range append(l, write(0, 0, some(n, 5)), of(api.OpCheckpoint), of(api.OpSync), write(0, 0, "x"), of(api.OpCheckpoint)) {
+				got := f.Do(o)
+				if len(o.Data) > 1 {
+					if got.Err == api.OK {
+						break
+					}
+					refused++
+					continue // this one is not asked of the other one
+				}
+				if want := g.Do(o); !model.Same(got, want) {
+					t.Fatal(left, n, short(o), got, want)
+				}
+				if !slices.Equal(f.Volume().Disk().Image(), g.Volume().Disk().Image()) {
+					t.Fatal(left, n, "another image behind", short(o))
+				}
 			}
 		}
+	}
+	if refused < 20 {
+		t.Error("refused", refused)
 	}
 }
 
@@ -200,6 +217,7 @@ func TestRight(t *testing.T) {
 		"names":                         {gone(key('d', 1) + "f"), api.EInval},
 		"names ahead of extents":        {twice(gone(key('d', 1)+"f"), put(key('x', 2, 0), "x")), api.EInval},
 		"an extent":                     {put(key('x', 2, 0), "x"), api.ErrExtent},
+		"extents ahead of chunks":       {twice(put(key('x', 9, 0), "x"), gone(key('c', 1))), api.ErrExtent},
 		"an extent above the size":      {put(key('x', 2, 50), extent), api.ErrExtent},
 		"no chunk":                      {gone(key('c', 1)), api.ErrChunk},
 		"a longer extent":               {put(key('x', 2, 0), "\x00\x00\x00\x01\x00\x00\x00\x02"), api.ErrChunk},
