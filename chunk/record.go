@@ -77,7 +77,7 @@ func asChunk(id int, value string) (api.Chunk, bool) {
 	x := api.Chunk{Id: id}
 	copy(x.Sum[:], r.Raw(sumSize))
 	x.Container, x.Offset, x.Length, x.Refs = int(r.U32()), int(r.U32()), int(r.U32()), int(r.U32())
-	may := x.Refs >= 1 && x.Length >= 1 && x.Container <= api.MaxNumber && x.Refs <= api.MaxNumber
+	may := x.Refs >= 1 && x.Refs <= api.MaxNumber && x.Length >= 1 && mayNumber(x.Container)
 	if r.Done() != api.OK || !may {
 		return api.Chunk{}, false
 	}
